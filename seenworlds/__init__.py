@@ -1,0 +1,1 @@
+"""What may be and what must be: formulas about worlds, decided."""
