@@ -1,9 +1,21 @@
 """The interface: the list that is handed in and the list that is given back."""
 
+import contextlib
+import io
 import unittest
 
 from seenworlds.formulas import answers
 from tests.helper import BEGIN, ask, doubled, frame, read, spelled, text
+
+
+class Unchangeable(list):
+    """A list that fails at the first change, though it be taken back later."""
+
+    def refuse(self, *arguments, **named):
+        raise AssertionError("what was handed in is changed")
+
+    append = clear = extend = insert = pop = remove = reverse = sort = refuse
+    __setitem__ = __delitem__ = __iadd__ = __imul__ = refuse
 
 
 class Form(unittest.TestCase):
@@ -42,6 +54,16 @@ class Apart(unittest.TestCase):
         before = list(calls)
         answers(calls)
         self.assertEqual(calls, before)
+
+    def test_what_is_handed_in_is_not_changed_for_a_while_either(self):
+        calls = read(" ( a & b ) ") + text() + frame(3, (1, 2, 4)) + BEGIN + read("x" * 600) + text(0)
+        self.assertEqual(answers(Unchangeable(calls)), answers(calls))
+
+    def test_nothing_is_printed(self):
+        printed = io.StringIO()
+        with contextlib.redirect_stdout(printed), contextlib.redirect_stderr(printed):
+            ask(BEGIN, read("(a&b)"), text(), read("("), frame(2, (1, 2)), frame(0, ()))
+        self.assertEqual(printed.getvalue(), "")
 
     def test_what_is_given_back_is_new(self):
         calls = read("a") + text()

@@ -1,6 +1,8 @@
 """Promise 2: read."""
 
+import inspect
 import itertools
+import sys
 import unittest
 
 from tests.helper import BLANKS, ask, ask_read, chain, doubled, read, read_bytes, spelled, text
@@ -192,6 +194,11 @@ class Limits(unittest.TestCase):
 
 
 class Depth(unittest.TestCase):
+    def setUp(self):
+        # Whoever goes down by a call a level doesn't come far.
+        self.addCleanup(sys.setrecursionlimit, sys.getrecursionlimit())
+        sys.setrecursionlimit(len(inspect.stack()) + 80)
+
     def test_as_deep_as_512_bytes_allow(self):
         self.assertEqual(ask_read("~" * 511 + "a"), -4)
         self.assertEqual(ask_read("[]" * 255 + "a"), -4)
