@@ -7,6 +7,9 @@ BEGIN = 0
 READ = 1
 TEXT = 2
 FRAME = 3
+HOLDS = 4
+DECIDE = 5
+FOLLOWS = 6
 
 
 # Walks the list that is handed in without changing it.
@@ -41,6 +44,15 @@ def answer_call(line, handed):
     if call == FRAME:
         worlds = handed.take_number()
         return frame(worlds, handed.take_row())
+    if call == HOLDS:
+        worlds = handed.take_number()
+        at = handed.take_number()
+        return line.holds(worlds, at, handed.take_row())
+    if call == DECIDE:
+        return line.decide(handed.take_number())
+    if call == FOLLOWS:
+        conditions = handed.take_number()
+        return line.follows(conditions, handed.take_row())
     raise ValueError("there is no such call")
 
 

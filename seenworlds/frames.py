@@ -9,6 +9,7 @@ SEES_ITSELF = 2
 SEES_ON = 4
 SEES_BACK = 8
 SEE_EACH_OTHER = 16
+ALL_CONDITIONS = 31
 
 
 def are_worlds(worlds, rows):

@@ -32,10 +32,11 @@ class TooMany(Exception):
 
 class Formula:
     # A part is its sign and the places, in parts, of what it is made of (None where there is nothing).
-    # These stand ahead of it, so the whole formula stands last.
-    def __init__(self, plain_bytes, parts):
+    # These stand ahead of it. The formula's own place need not be the last: parts may be another's too.
+    def __init__(self, plain_bytes, parts, place):
         self.plain_bytes = plain_bytes
         self.parts = parts
+        self.place = place
 
 
 def is_letter(sign):
@@ -80,9 +81,9 @@ def check_second(first, behind):
 
 # Goes sign by sign and keeps what is begun in a list, as formulas may lie deeper than calls may.
 class PartsReader:
-    def __init__(self):
-        self.parts = []
-        self.places = {}
+    def __init__(self, parts):
+        self.parts = list(parts)
+        self.places = dict([(part, place) for place, part in enumerate(parts)])
         # What is begun, outermost first: a sign, and the place of what stands left of it, if it stands between.
         self.begun = []
         # The place of the formula that ends where the reader is, None where one has yet to begin.
@@ -129,22 +130,22 @@ class PartsReader:
         return self.places[part]
 
 
-def parts_of(signs):
-    reader = PartsReader()
-    for sign in signs:
-        reader.take(sign)
-    if reader.ready is None or reader.begun:
-        raise NotMade("the text ends too early")
-    return reader.parts
-
-
 def check_size(parts):
     atoms = [part for part in parts if is_atom(part)]
     if len(parts) > MOST_PARTS or len(atoms) > MOST_ATOMS:
         raise TooMany("more parts than a formula may have")
 
 
+# The parts that are there already keep their places, so that what is known by place stays right.
+def formula_beside(parts, text):
+    reader = PartsReader(parts)
+    for sign in signs_of(text):
+        reader.take(sign)
+    if reader.ready is None or reader.begun:
+        raise NotMade("the text ends too early")
+    check_size(reader.parts)
+    return Formula([byte for byte in text if byte not in BLANKS], reader.parts, reader.ready)
+
+
 def formula_of(text):
-    parts = parts_of(signs_of(text))
-    check_size(parts)
-    return Formula([byte for byte in text if byte not in BLANKS], parts)
+    return formula_beside([], text)

@@ -4,31 +4,9 @@ import itertools
 import unittest
 
 from tests.helper import BEGIN, ask, ask_frame, frame, read, spelled, text
+from tests.plain import told
 
 EVERY = (1 << 64) - 1
-
-
-def told(rows):
-    """The conditions that the rows meet, word by word as the document tells them."""
-    worlds = range(len(rows))
-    pairs = list(itertools.product(worlds, worlds))
-    threes = list(itertools.product(worlds, worlds, worlds))
-
-    def sees(one, other):
-        return rows[one] & (1 << other) != 0
-
-    met = 0
-    if all(any(sees(one, other) for other in worlds) for one in worlds):
-        met += 1
-    if all(sees(one, one) for one in worlds):
-        met += 2
-    if all(sees(one, third) for one, other, third in threes if sees(one, other) and sees(other, third)):
-        met += 4
-    if all(sees(other, one) for one, other in pairs if sees(one, other)):
-        met += 8
-    if all(sees(two, three) for one, two, three in threes if sees(one, two) and sees(one, three)):
-        met += 16
-    return met
 
 
 class Conditions(unittest.TestCase):

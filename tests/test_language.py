@@ -102,6 +102,40 @@ class Language(unittest.TestCase):
                 if isinstance(node, ast.arg):
                     self.assertFalse(hasattr(builtins, node.arg), f"{name}:{node.lineno}")
 
+    def test_locals_hide_nothing(self):
+        for name, tree in self.trees():
+            taken = {alias.name for node in tree.body if isinstance(node, ast.ImportFrom) for alias in node.names}
+            taken |= {node.name for node in tree.body if isinstance(node, ast.ClassDef)}
+            for node in ast.walk(tree):
+                if isinstance(node, ast.arg):
+                    self.assertNotIn(node.arg, taken, f"{name}:{node.lineno}")
+                if isinstance(node, ast.Name) and isinstance(node.ctx, ast.Store):
+                    self.assertNotIn(node.id, taken, f"{name}:{node.lineno}")
+
+    def test_comprehensions_and_sets(self):
+        for name, tree in self.trees():
+            for node in ast.walk(tree):
+                if isinstance(node, ast.ListComp):
+                    self.assertEqual(len(node.generators), 1, f"{name}:{node.lineno}")
+                    self.assertLessEqual(len(node.generators[0].ifs), 1, f"{name}:{node.lineno}")
+                if isinstance(node, ast.Call) and isinstance(node.func, ast.Name) and node.func.id in ("sorted", "len"):
+                    continue
+                # A set is neither kept nor walked: here it stands within sorted or len alone.
+                for inner in ast.iter_child_nodes(node):
+                    called = inner.func if isinstance(inner, ast.Call) else None
+                    self.assertFalse(isinstance(called, ast.Name) and called.id == "set", f"{name}:{node}")
+
+    def test_no_two_files_draw_from_one_another(self):
+        draws = {}
+        for name, tree in self.trees():
+            drawn = [node.module.split(".")[1] + ".py" for node in tree.body if isinstance(node, ast.ImportFrom)]
+            draws[name] = drawn
+        while draws:
+            free = [name for name, drawn in draws.items() if not any(other in draws for other in drawn)]
+            self.assertNotEqual(free, [], draws)
+            for name in free:
+                draws.pop(name)
+
     def test_methods(self):
         methods = set()
         values = set()
